@@ -1,0 +1,1 @@
+"""Neveragain: words made by putting, and words without repeats."""

@@ -1,0 +1,155 @@
+"""Holds the package to the rows of the language document that can be told from its form."""
+
+import ast
+import builtins
+import pathlib
+import re
+import unittest
+
+PACKAGE = pathlib.Path(__file__).resolve().parent.parent / "neveragain"
+
+NAMES = set("""
+    len range enumerate zip min max sum abs sorted reversed int str bool list tuple dict set
+    frozenset isinstance ord repr any all divmod Exception ValueError TypeError KeyError
+    IndexError LookupError ZeroDivisionError ArithmeticError OverflowError RuntimeError
+    NotImplementedError AttributeError StopIteration
+""".split())
+
+METHODS = set("""
+    append clear copy count endswith extend find get index insert isalnum isalpha isdigit
+    islower isspace isupper items join keys ljust lower lstrip partition pop remove replace
+    reverse rfind rjust rpartition rsplit rstrip setdefault split splitlines startswith strip
+    update upper values zfill bit_length
+""".split())
+
+WORDS_OUT = re.compile(
+    r"\b(type|typing|typing_extensions|enum|Enum|IntEnum|StrEnum|Flag|IntFlag|Generic|Protocol"
+    r"|ABC|ABCMeta|namedtuple|NamedTuple|TypedDict|TYPE_CHECKING|abstractmethod)\b"
+    r"|dataclass|overload|contextmanager"
+)
+
+NODES = set("""
+    Module FunctionDef arguments arg ClassDef Assign AugAssign If While For Return Break Continue
+    Pass Raise Try ExceptHandler Expr ImportFrom alias
+    Constant Name Load Store List Tuple Dict Set BinOp UnaryOp BoolOp Compare IfExp Call keyword
+    Attribute Subscript Slice ListComp comprehension JoinedStr FormattedValue Lambda
+    Add Sub Mult FloorDiv Mod Pow BitAnd BitOr BitXor LShift RShift Invert USub UAdd Not And Or
+    Eq NotEq Lt LtE Gt GtE Is IsNot In NotIn
+""".split())
+
+TOP_NODES = (ast.ImportFrom, ast.FunctionDef, ast.ClassDef, ast.Assign)
+TWO_UNDERSCORES = ("__init__", "__eq__", "__repr__", "__str__", "__len__")
+
+
+def files():
+    return sorted(PACKAGE.glob("*.py"))
+
+
+def trees():
+    return [(path.name, ast.parse(path.read_text())) for path in files()]
+
+
+def method_defs(tree):
+    return [
+        inner
+        for node in ast.walk(tree)
+        if isinstance(node, ast.ClassDef)
+        for inner in node.body
+        if isinstance(inner, ast.FunctionDef)
+    ]
+
+
+def own_methods():
+    return {node.name for file, tree in trees() for node in method_defs(tree)}
+
+
+def bound_name(node):
+    if isinstance(node, (ast.FunctionDef, ast.ClassDef)):
+        return node.name
+    if isinstance(node, ast.arg):
+        return node.arg
+    if isinstance(node, ast.Name) and isinstance(node.ctx, ast.Store):
+        return node.id
+    return None
+
+
+class TestLanguage(unittest.TestCase):
+    def test_only_python_files_lie_in_the_package(self):
+        for path in PACKAGE.iterdir():
+            if path.name != "__pycache__":
+                self.assertRegex(path.name, r"^[a-z0-9_]+\.py$")
+        self.assertIn("__init__.py", [path.name for path in files()])
+
+    def test_signs_and_sizes(self):
+        for path in files():
+            rows = path.read_bytes().decode("ascii").split("\n")
+            self.assertLessEqual(len(rows), 401, path.name)
+            for number, row in enumerate(rows, 1):
+                where = f"{path.name}:{number}"
+                self.assertLessEqual(len(row), 120, where)
+                self.assertRegex(row, r"^[ -~]*$", where)
+                self.assertIsNone(WORDS_OUT.search(row), where)
+
+    def test_functions(self):
+        for file, tree in trees():
+            for node in ast.walk(tree):
+                if isinstance(node, ast.FunctionDef):
+                    where = f"{file}:{node.lineno}"
+                    handed = node.args
+                    self.assertLessEqual(node.end_lineno - node.lineno + 1, 40, where)
+                    self.assertEqual(node.decorator_list, [], where)
+                    self.assertEqual((handed.vararg, handed.kwarg), (None, None), where)
+                    self.assertEqual((handed.posonlyargs, handed.kwonlyargs), ([], []), where)
+
+    def test_the_top_of_a_file(self):
+        for file, tree in trees():
+            body = tree.body[1:] if ast.get_docstring(tree) is not None else tree.body
+            for node in body:
+                where = f"{file}:{node.lineno}"
+                self.assertIsInstance(node, TOP_NODES, where)
+                if isinstance(node, ast.ImportFrom):
+                    self.assertEqual(node.level, 0, where)
+                    self.assertRegex(node.module, r"^neveragain\.[a-z0-9_]+$", where)
+                    self.assertNotIn("*", [name.name for name in node.names], where)
+
+    def test_only_plain_forms(self):
+        for file, tree in trees():
+            for node in ast.walk(tree):
+                where = f"{file}:{getattr(node, 'lineno', 0)}"
+                self.assertIn(type(node).__name__, NODES, where)
+                if isinstance(node, ast.Constant):
+                    self.assertIn(type(node.value), (int, str, bool, type(None)), where)
+                if isinstance(node, (ast.For, ast.While)):
+                    self.assertEqual(node.orelse, [], where)
+                if isinstance(node, ast.Try):
+                    self.assertEqual(node.finalbody, [], where)
+                if isinstance(node, ast.ListComp):
+                    self.assertEqual(len(node.generators), 1, where)
+                    self.assertLessEqual(len(node.generators[0].ifs), 1, where)
+                if isinstance(node, ast.Assign):
+                    self.assertEqual(len(node.targets), 1, where)
+
+    def test_names(self):
+        for file, tree in trees():
+            methods = method_defs(tree)
+            for node in ast.walk(tree):
+                where = f"{file}:{getattr(node, 'lineno', 0)}"
+                if isinstance(node, ast.Name) and hasattr(builtins, node.id):
+                    self.assertIn(node.id, NAMES, where)
+                name = bound_name(node)
+                if name is None or name in TWO_UNDERSCORES:
+                    continue
+                self.assertRegex(name, r"^[A-Za-z][A-Za-z0-9_]*$", where)
+                if node not in methods:
+                    self.assertFalse(hasattr(builtins, name), where)
+
+    def test_called_methods(self):
+        known = METHODS | own_methods() | set(TWO_UNDERSCORES)
+        for file, tree in trees():
+            for node in ast.walk(tree):
+                if isinstance(node, ast.Call) and isinstance(node.func, ast.Attribute):
+                    self.assertIn(node.func.attr, known, f"{file}:{node.lineno}")
+
+
+if __name__ == "__main__":
+    unittest.main()
