@@ -57,8 +57,16 @@ def image_up_to(rule, word, most):
     # The size is told by counting, so that nothing too great is ever made.
     if image_size(rule, word) > most:
         raise TooGreat(most)
-    word_for = dict(zip(letters(len(rule)), rule))
+    return put(rule, word)
+
+
+def put(rule, word):
+    word_for = words_by_letter(rule)
     return "".join([word_for[sign] for sign in word])
+
+
+def words_by_letter(rule):
+    return dict(zip(letters(len(rule)), rule))
 
 
 def image_size(rule, word):

@@ -37,6 +37,16 @@ NODES = set("""
     Eq NotEq Lt LtE Gt GtE Is IsNot In NotIn
 """.split())
 
+# Nowhere, neither as a name nor as a method or a value.
+NAMES_OUT = set("""
+    register mro elements open input version_info with_traceback add_note attrgetter breakpoint
+    builtins compile copyright credits delattr dir eval exec exit gc getattr globals hasattr help
+    id importlib license locals methodcaller os quit setattr super type vars sys chr
+""".split())
+
+WALKED_AT_ONCE = ("zip", "enumerate", "reversed", "range")
+WALKERS = ("list", "tuple", "dict", "sorted", "sum", "any", "all", "enumerate", "zip", "min", "max")
+
 TOP_NODES = (ast.ImportFrom, ast.FunctionDef, ast.ClassDef, ast.Assign)
 TWO_UNDERSCORES = ("__init__", "__eq__", "__repr__", "__str__", "__len__")
 
@@ -71,6 +81,43 @@ def bound_name(node):
     if isinstance(node, ast.Name) and isinstance(node.ctx, ast.Store):
         return node.id
     return None
+
+
+def names_defined(tree):
+    return [name for name in map(bound_name, tree.body) if name is not None] + [
+        target.id for node in tree.body if isinstance(node, ast.Assign) for target in node.targets
+    ]
+
+
+def names_imported(tree):
+    return [
+        (node.module.split(".")[1], name.name)
+        for node in tree.body
+        if isinstance(node, ast.ImportFrom)
+        for name in node.names
+    ]
+
+
+def bound_within_defs(tree):
+    return [
+        (inner, bound_name(inner))
+        for node in ast.walk(tree)
+        if isinstance(node, (ast.FunctionDef, ast.Lambda))
+        for inner in ast.walk(node)
+        if inner is not node and bound_name(inner) is not None
+    ]
+
+
+def walked_on_the_spot(tree):
+    """The calls that stand where they are walked."""
+    walked = []
+    for node in ast.walk(tree):
+        if isinstance(node, (ast.For, ast.comprehension)):
+            walked.append(node.iter)
+        if isinstance(node, ast.Call) and isinstance(node.func, ast.Name):
+            if node.func.id in WALKERS:
+                walked.extend(node.args)
+    return walked
 
 
 class TestLanguage(unittest.TestCase):
@@ -128,6 +175,72 @@ class TestLanguage(unittest.TestCase):
                     self.assertLessEqual(len(node.generators[0].ifs), 1, where)
                 if isinstance(node, ast.Assign):
                     self.assertEqual(len(node.targets), 1, where)
+                    self.assertNotIsInstance(node.targets[0], (ast.Tuple, ast.List), where)
+                if isinstance(node, ast.FunctionDef):
+                    self.assertIsNone(node.returns, where)
+                if isinstance(node, ast.arg):
+                    self.assertIsNone(node.annotation, where)
+
+    def test_a_text_by_itself_stands_at_the_top_alone(self):
+        for file, tree in trees():
+            top = tree.body[0]
+            for node in ast.walk(tree):
+                if isinstance(node, ast.Expr) and node is not top:
+                    self.assertIsInstance(node.value, ast.Call, f"{file}:{node.lineno}")
+
+    def test_is_stands_beside_none_true_and_false_alone(self):
+        for file, tree in trees():
+            for node in ast.walk(tree):
+                if isinstance(node, ast.Compare):
+                    for sign, other in zip(node.ops, node.comparators):
+                        if isinstance(sign, (ast.Is, ast.IsNot)):
+                            self.assertIsInstance(other, ast.Constant, f"{file}:{node.lineno}")
+                            self.assertIn(other.value, (None, True, False))
+
+    def test_powers_have_a_written_exponent(self):
+        for file, tree in trees():
+            for node in ast.walk(tree):
+                if isinstance(node, ast.BinOp) and isinstance(node.op, ast.Pow):
+                    self.assertIsInstance(node.right, ast.Constant, f"{file}:{node.lineno}")
+                    self.assertIn(node.right.value, range(65), f"{file}:{node.lineno}")
+
+    def test_texts(self):
+        for file, tree in trees():
+            for node in ast.walk(tree):
+                if isinstance(node, ast.Constant) and isinstance(node.value, str):
+                    self.assertNotIn(chr(37), node.value, f"{file}:{node.lineno}")
+
+    def test_walked_at_once(self):
+        for file, tree in trees():
+            walked = walked_on_the_spot(tree)
+            for node in ast.walk(tree):
+                if isinstance(node, ast.Call) and isinstance(node.func, ast.Name):
+                    if node.func.id in WALKED_AT_ONCE:
+                        self.assertIn(node, walked, f"{file}:{node.lineno}")
+
+    def test_imports_come_from_where_a_name_is_defined_and_never_round(self):
+        defined = {file[:-3]: names_defined(tree) for file, tree in trees()}
+        drawn = {file[:-3]: names_imported(tree) for file, tree in trees()}
+        for file, names in drawn.items():
+            for module, name in names:
+                self.assertIn(name, defined[module], file)
+        ordered = []
+        while len(ordered) < len(drawn):
+            ready = [
+                file for file, names in drawn.items()
+                if file not in ordered and all(module in ordered for module, name in names)
+            ]
+            self.assertNotEqual(ready, [], "files that draw from one another")
+            ordered.extend(ready)
+
+    def test_each_name_once(self):
+        for file, tree in trees():
+            once = names_defined(tree) + [name for module, name in names_imported(tree)]
+            self.assertEqual(len(once), len(set(once)), file)
+            classes = [node.name for node in tree.body if isinstance(node, ast.ClassDef)]
+            taken = classes + [name for module, name in names_imported(tree)]
+            for node, name in bound_within_defs(tree):
+                self.assertNotIn(name, taken, f"{file}:{node.lineno}")
 
     def test_names(self):
         for file, tree in trees():
@@ -136,6 +249,10 @@ class TestLanguage(unittest.TestCase):
                 where = f"{file}:{getattr(node, 'lineno', 0)}"
                 if isinstance(node, ast.Name) and hasattr(builtins, node.id):
                     self.assertIn(node.id, NAMES, where)
+                if isinstance(node, ast.Name):
+                    self.assertNotIn(node.id, NAMES_OUT, where)
+                if isinstance(node, ast.Attribute):
+                    self.assertNotIn(node.attr, NAMES_OUT, where)
                 name = bound_name(node)
                 if name is None or name in TWO_UNDERSCORES:
                     continue
