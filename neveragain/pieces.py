@@ -23,14 +23,20 @@ def counts_ahead(rule, start, length):
     # here is met at its first place, and behind all that were met before it.
     while done < len(found):
         piece = found[done]
-        made = put(rule, piece)
+        word = put(rule, piece[:1])
         base = counts_behind(rule, ahead[piece], 1)
-        for place in range(len(put(rule, piece[:1]))):
-            met = made[place:place + length]
+        for place, met in enumerate(pieces_of_image(rule, piece)):
             if met not in ahead:
                 if len(found) == MOST_PIECES:
                     raise TooGreat(MOST_PIECES)
                 found.append(met)
-                ahead[met] = added(base, counts(made[:place], len(rule)))
+                ahead[met] = added(base, counts(word[:place], len(rule)))
         done = done + 1
     return ahead
+
+
+def pieces_of_image(rule, piece):
+    # Only those that begin in the image of its first sign: the others begin in images of
+    # signs that begin pieces of their own.
+    made = put(rule, piece)
+    return [made[place:place + len(piece)] for place in range(len(put(rule, piece[:1])))]

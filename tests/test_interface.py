@@ -18,6 +18,9 @@ FUNCTIONS = {
         "stretch_at(rule, start, n, many)", "counts_to(rule, start, n)",
     ],
     "pieces": ["pieces(rule, start, length)"],
+    "again": ["mixes(rule)", "distance(rule, start, piece)"],
+    "repeats": ["repeat_in(word, limit)", "greatest_share(word)"],
+    "keeping": ["free_words(many, length)", "looked_length(rule)", "keeps(rule)"],
 }
 
 

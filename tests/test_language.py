@@ -45,6 +45,7 @@ NAMES_OUT = set("""
 """.split())
 
 WALKED_AT_ONCE = ("zip", "enumerate", "reversed", "range")
+METHODS_WALKED_AT_ONCE = ("items", "keys", "values")
 WALKERS = ("list", "tuple", "dict", "sorted", "sum", "any", "all", "enumerate", "zip", "min", "max")
 
 TOP_NODES = (ast.ImportFrom, ast.FunctionDef, ast.ClassDef, ast.Assign)
@@ -217,6 +218,47 @@ class TestLanguage(unittest.TestCase):
                 if isinstance(node, ast.Call) and isinstance(node.func, ast.Name):
                     if node.func.id in WALKED_AT_ONCE:
                         self.assertIn(node, walked, f"{file}:{node.lineno}")
+                if isinstance(node, ast.Call) and isinstance(node.func, ast.Attribute):
+                    if node.func.attr in METHODS_WALKED_AT_ONCE:
+                        self.assertIn(node, walked, f"{file}:{node.lineno}")
+
+    def test_sets_are_used_on_the_spot(self):
+        for file, tree in trees():
+            on_the_spot = []
+            for node in ast.walk(tree):
+                if isinstance(node, ast.Compare):
+                    on_the_spot.extend([node.left] + node.comparators)
+                if isinstance(node, ast.Call) and isinstance(node.func, ast.Name):
+                    if node.func.id in ("sorted", "len") and node.keywords == []:
+                        on_the_spot.extend(node.args)
+                if isinstance(node, ast.BinOp) and node in on_the_spot:
+                    on_the_spot.extend([node.left, node.right])
+            for node in ast.walk(tree):
+                if isinstance(node, ast.Call) and isinstance(node.func, ast.Name):
+                    if node.func.id in ("set", "frozenset"):
+                        self.assertIn(node, on_the_spot, f"{file}:{node.lineno}")
+
+    def test_values_of_objects(self):
+        taken = {name for kind in (str, int, list, dict, set, bytes) for name in dir(kind)}
+        stored = set()
+        for file, tree in trees():
+            for node in ast.walk(tree):
+                if isinstance(node, ast.Attribute) and isinstance(node.ctx, ast.Store):
+                    self.assertIsInstance(node.value, ast.Name, f"{file}:{node.lineno}")
+                    self.assertNotIn(node.attr, taken, f"{file}:{node.lineno}")
+                    stored.add(node.attr)
+        self.assertEqual(stored & own_methods(), set())
+
+    def test_classes(self):
+        for file, tree in trees():
+            for node in ast.walk(tree):
+                if isinstance(node, ast.ClassDef):
+                    where = f"{file}:{node.lineno}"
+                    self.assertIn(node, tree.body, where)
+                    self.assertLessEqual(len(node.bases), 1, where)
+                    self.assertEqual((node.keywords, node.decorator_list), ([], []), where)
+                    for inner in node.body:
+                        self.assertIsInstance(inner, (ast.FunctionDef, ast.Pass), where)
 
     def test_imports_come_from_where_a_name_is_defined_and_never_round(self):
         defined = {file[:-3]: names_defined(tree) for file, tree in trees()}

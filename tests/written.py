@@ -1,5 +1,6 @@
 """Words written out by putting again and again: what the tests hold the answers against."""
 
+import fractions
 import itertools
 
 
@@ -61,3 +62,74 @@ RULES = ONE_LETTER + TWO_LETTERS + THREE_LETTERS + FOUR_LETTERS
 
 def growing(rules):
     return [(rule, start) for rule in rules for start in "abcd" if grows_plainly(rule, start)]
+
+
+def words_of(many, size):
+    return ["".join(signs) for signs in itertools.product("abcd"[:many], repeat=size)]
+
+
+def places_of(word, piece):
+    found = []
+    place = word.find(piece)
+    while place >= 0:
+        found.append(place)
+        place = word.find(piece, place + 1)
+    return found
+
+
+def widest_gap(word, piece):
+    """The greatest gap between two next places of the piece, with the first place of such a gap."""
+    found = places_of(word, piece)
+    gaps = [(later - place, -place) for place, later in zip(found, found[1:])]
+    gap, place = max(gaps, default=(0, 0))
+    return (gap, -place)
+
+
+def has_period(stretch, period):
+    return all(stretch[k] == stretch[k + period] for k in range(len(stretch) - period))
+
+
+def stretches_with_periods(word):
+    """Each stretch with each of its periods: (end, period, length, place)."""
+    return [
+        (end, period, end - place, place)
+        for end in range(1, len(word) + 1)
+        for place in range(end)
+        for period in range(1, end - place)
+        if has_period(word[place:end], period)
+    ]
+
+
+def breaks_limit(length, period, limit):
+    top, bottom, above = limit
+    share = fractions.Fraction(length, period)
+    told = fractions.Fraction(top, bottom)
+    return share > told or (not above and share == told)
+
+
+def first_repeat(stretches, limit):
+    breaking = [each for each in stretches if breaks_limit(each[2], each[1], limit)]
+    if not breaking:
+        return None
+    end, period, length, place = min(breaking)
+    return (place, length, period)
+
+
+def widest_share(stretches, word):
+    """As told: the greatest share, of several the least period, of these what begins first."""
+    own = [(end, end - place, end - place, place) for end in range(len(word) + 1) for place in range(end)]
+    ranked = [
+        (-fractions.Fraction(length, period), period, place, length)
+        for end, period, length, place in stretches + own
+    ]
+    share, period, place, length = min(ranked)
+    return (length, period, place)
+
+
+def is_free(word):
+    """Free of doubles: no stretch of it stands twice in a row."""
+    return not any(
+        word[place:place + half] == word[place + half:place + 2 * half]
+        for half in range(1, len(word) // 2 + 1)
+        for place in range(len(word) - 2 * half + 1)
+    )
