@@ -2,17 +2,24 @@
 
 
 def repeat_in(word, limit):
-    least = [least_length(period, limit) for period in range(len(word))]
-    alike = [0] * len(word)
-    # Ends are walked first, then periods, so what is met first is what is to be told.
-    for last in range(len(word)):
-        for period in range(1, last + 1):
-            if word[last] != word[last - period]:
-                alike[period] = 0
-                continue
-            alike[period] = alike[period] + 1
-            if period + alike[period] >= least[period]:
-                return (last + 1 - least[period], least[period], period)
+    for end in range(1, len(word) + 1):
+        repeat = repeat_at_end(word[:end], limit)
+        if repeat is not None:
+            return repeat
+    return None
+
+
+def repeat_at_end(word, limit):
+    # Only stretches that end with the word: those are all there are where it is free but for
+    # its last sign.
+    for period in range(1, len(word)):
+        length = least_length(period, limit)
+        # A greater period asks for no shorter stretch.
+        if length > len(word):
+            return None
+        stretch = word[len(word) - length:]
+        if stretch[period:] == stretch[:length - period]:
+            return (len(word) - length, length, period)
     return None
 
 

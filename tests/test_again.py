@@ -12,6 +12,7 @@ from written import (
     first_places,
     growing,
     grows_plainly,
+    mixes_plainly,
     places_of,
     put_often,
     put_once,
@@ -61,16 +62,6 @@ def scattered_rule(many):
 
 RICH = scattered_rule(4)
 RICH_OF_THREE = scattered_rule(3)
-
-
-def mixes_plainly(rule):
-    """By the letters that each letter's word has, turned more often than ever needed."""
-    held = list("abcd"[:len(rule)])
-    for _ in range(40):
-        if all(len(letters) == len(rule) for letters in held):
-            return True
-        held = ["".join(sorted(set(put_once(rule, letters)))) for letters in held]
-    return False
 
 
 class AgainTest(unittest.TestCase):

@@ -21,6 +21,9 @@ FUNCTIONS = {
     "again": ["mixes(rule)", "distance(rule, start, piece)"],
     "repeats": ["repeat_in(word, limit)", "greatest_share(word)"],
     "keeping": ["free_words(many, length)", "looked_length(rule)", "keeps(rule)"],
+    "parted": ["parted(many, limit, length)"],
+    "same": ["same(rule, other, start)"],
+    "shares": ["shares(rule)"],
 }
 
 
@@ -33,6 +36,12 @@ class TestInterface(unittest.TestCase):
                     name = wanted.partition("(")[0]
                     told = name + str(inspect.signature(getattr(loaded, name)))
                     self.assertEqual(told, wanted)
+
+    def test_the_desk(self):
+        desk = importlib.import_module("neveragain.desk").Desk
+        self.assertIs(type(desk), type)
+        self.assertEqual(str(inspect.signature(desk)), "()")
+        self.assertEqual(str(inspect.signature(desk().say)), "(row)")
 
 
 if __name__ == "__main__":

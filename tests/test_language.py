@@ -302,6 +302,43 @@ class TestLanguage(unittest.TestCase):
                 if node not in methods:
                     self.assertFalse(hasattr(builtins, name), where)
 
+    def test_errors_are_made_on_the_spot(self):
+        for file, tree in trees():
+            for node in ast.walk(tree):
+                if isinstance(node, ast.Raise):
+                    self.assertIsInstance(node.exc, ast.Call, f"{file}:{node.lineno}")
+                    self.assertIsInstance(node.exc.func, ast.Name, f"{file}:{node.lineno}")
+                    self.assertEqual(node.exc.keywords, [], f"{file}:{node.lineno}")
+
+    def test_values_at_the_top_are_plain(self):
+        # Narrower than asked: no list or dict stands there at all, so none can be changed.
+        for file, tree in trees():
+            for node in tree.body:
+                if isinstance(node, ast.Assign):
+                    for inner in ast.walk(node.value):
+                        self.assertIsInstance(inner, (ast.Constant, ast.Tuple, ast.Load), f"{file}:{node.lineno}")
+
+    def test_names_of_pythons_own_are_called(self):
+        for file, tree in trees():
+            called = [node.func for node in ast.walk(tree) if isinstance(node, ast.Call)]
+            asked = [
+                inner
+                for node in ast.walk(tree)
+                if isinstance(node, ast.Call) and isinstance(node.func, ast.Name) and node.func.id == "isinstance"
+                for inner in ast.walk(node.args[1])
+            ]
+            bases = [base for node in ast.walk(tree) if isinstance(node, ast.ClassDef) for base in node.bases]
+            for node in ast.walk(tree):
+                if isinstance(node, ast.Name) and hasattr(builtins, node.id):
+                    self.assertIn(node, called + asked + bases, f"{file}:{node.lineno}")
+
+    def test_no_keywords_are_handed_to_pythons_own(self):
+        for file, tree in trees():
+            for node in ast.walk(tree):
+                if isinstance(node, ast.Call) and isinstance(node.func, (ast.Name, ast.Attribute)):
+                    own = isinstance(node.func, ast.Name) and not hasattr(builtins, node.func.id)
+                    self.assertTrue(own or node.keywords == [], f"{file}:{node.lineno}")
+
     def test_called_methods(self):
         known = METHODS | own_methods() | set(TWO_UNDERSCORES)
         for file, tree in trees():

@@ -133,3 +133,48 @@ def is_free(word):
         for half in range(1, len(word) // 2 + 1)
         for place in range(len(word) - 2 * half + 1)
     )
+
+
+def mixes_plainly(rule):
+    """By the letters that each letter's word has, turned more often than ever needed."""
+    held = list("abcd"[:len(rule)])
+    for _ in range(40):
+        if all(len(letters) == len(rule) for letters in held):
+            return True
+        held = ["".join(sorted(set(put_once(rule, letters)))) for letters in held]
+    return False
+
+
+def turns_to(rule, start, place):
+    """How many turns bring the letter to more signs than so many, by counting alone."""
+    held = [int(letter == start) for letter in "abcd"[:len(rule)]]
+    turns = 0
+    while sum(held) <= place:
+        held = [
+            sum(many * word.count(letter) for many, word in zip(held, rule))
+            for letter in "abcd"[:len(rule)]
+        ]
+        turns += 1
+    return turns
+
+
+def parted_plainly(many, limit, length, repeat_of):
+    """As told, with how many words were looked at: the found word or None, the cases, how many."""
+    cases = []
+    looked_at = []
+
+    def look(word):
+        looked_at.append(word)
+        repeat = repeat_of(word, limit)
+        if repeat is not None:
+            cases.append((word, repeat))
+            return None
+        if len(word) == length:
+            return word
+        for letter in "abcd"[:many]:
+            found = look(word + letter)
+            if found is not None:
+                return found
+        return None
+
+    return (look(""), cases, len(looked_at))
